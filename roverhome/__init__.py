@@ -1,0 +1,1 @@
+"""A rover that always comes home, whole."""
