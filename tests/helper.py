@@ -98,32 +98,19 @@ def beside(width, height, cell):
     return [width * b + a for a, b in around if 0 <= a < width and 0 <= b < height]
 
 
-def far_home(width, height, costs, home):
-    """How far home is from each cell; costs holds the free cells alone. Relaxed until nothing changes."""
-    far = {home: 0} if home in costs else {}
+def far(width, height, costs, home, homeward):
+    """How far it is from each cell home, or else from home to each cell; costs holds the free cells alone."""
+    found = {home: 0} if home in costs else {}
     changed = True
     while changed:
         changed = False
         for cell in costs:
-            for onward in beside(width, height, cell):
-                if onward in far and far[onward] + costs[onward] < far.get(cell, NEVER):
-                    far[cell] = far[onward] + costs[onward]
+            for near in beside(width, height, cell):
+                entered = near if homeward else cell
+                if near in found and found[near] + costs[entered] < found.get(cell, NEVER):
+                    found[cell] = found[near] + costs[entered]
                     changed = True
-    return far
-
-
-def far_from(width, height, costs, start):
-    """How far it is to each cell from start; costs holds the free cells alone."""
-    far = {start: 0} if start in costs else {}
-    changed = True
-    while changed:
-        changed = False
-        for cell in costs:
-            for before in beside(width, height, cell):
-                if before in far and far[before] + costs[cell] < far.get(cell, NEVER):
-                    far[cell] = far[before] + costs[cell]
-                    changed = True
-    return far
+    return found
 
 
 class Model:

@@ -2,8 +2,7 @@
 
 import unittest
 
-from helper import (NEVER, STEP, beside, dice_of, done, far_from, far_home, heard, keep_out, random_ground, rv_start,
-                    told)
+from helper import NEVER, STEP, beside, dice_of, done, far, heard, keep_out, random_ground, rv_start, told
 
 
 class Followed:
@@ -51,14 +50,14 @@ class Followed:
             self.ask_home()
 
     def ask_home(self):
-        far = far_home(self.width, self.height, self.free(), self.home)
-        self.test.assertLessEqual(far.get(self.place, NEVER), self.left)
+        back = far(self.width, self.height, self.free(), self.home, True)
+        self.test.assertLessEqual(back.get(self.place, NEVER), self.left)
 
     def ask_everything(self):
         self.test.assertEqual((self.place, self.left), (self.home, self.room))
         whole = {cell: cost for cell, cost in enumerate(self.ground) if cost != 255 and cell not in self.kept}
-        there = far_from(self.width, self.height, whole, self.home)
-        back = far_home(self.width, self.height, whole, self.home)
+        there = far(self.width, self.height, whole, self.home, False)
+        back = far(self.width, self.height, whole, self.home, True)
         for cell in there:
             if there[cell] + back[cell] <= self.room:
                 self.test.assertIn(cell, self.been)
