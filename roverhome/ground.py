@@ -1,6 +1,7 @@
 """The calls on one rover and one people's end, read from one list of numbers and answered in another."""
 
 from roverhome.people import People
+from roverhome.refusals import BAD_VALUE
 from roverhome.rover import Rover
 from roverhome.ways import sides_fit
 
@@ -10,11 +11,15 @@ RV_HEARD = 2
 RV_TICK = 3
 RV_STATE = 4
 BS_START = 5
+BS_AVOID = 6
+BS_HEARD = 7
+BS_TICK = 8
+BS_MAP = 9
+BS_STATE = 10
 
 # By a call's number: how many numbers it has ahead of its row, that one counted.
-PLAIN_LENGTHS = (5, 1, 1, 1, 1, 3)
+PLAIN_LENGTHS = (5, 1, 1, 1, 1, 3, 2, 1, 1, 1, 1)
 
-BAD_VALUE = -22
 MOST_ROOM = 65535
 
 
@@ -41,9 +46,12 @@ class Line:
 
     def answer(self, plain, row):
         """What's answered to a call; plain is its number and its whole numbers."""
+        if plain[0] < BS_START:
+            return self.answer_on_rover(plain, row)
+        return self.answer_on_people(plain, row)
+
+    def answer_on_rover(self, plain, row):
         call = plain[0]
-        if call == RV_START:
-            return self.start_rover(plain[1], plain[2], plain[3], plain[4], row)
         if call == RV_STEP:
             return self.rover.step()
         if call == RV_HEARD:
@@ -52,11 +60,25 @@ class Line:
             return self.rover.tick()
         if call == RV_STATE:
             return self.rover.state()
+        return self.start_rover(plain[1], plain[2], plain[3], plain[4], row)
+
+    def answer_on_people(self, plain, row):
+        call = plain[0]
+        if call == BS_AVOID:
+            return self.people.avoid(plain[1])
+        if call == BS_HEARD:
+            return self.people.hear(row)
+        if call == BS_TICK:
+            return self.people.tick()
+        if call == BS_MAP:
+            return self.people.whole_map()
+        if call == BS_STATE:
+            return self.people.state()
         return self.start_people(plain[1], plain[2])
 
 
 def has_row(call):
-    return call == RV_START or call == RV_HEARD
+    return call == RV_START or call == RV_HEARD or call == BS_HEARD
 
 
 def answers(calls):

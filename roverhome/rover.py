@@ -1,10 +1,8 @@
 """The rover: what it knows, where it goes, what it hears and sends."""
 
-from roverhome.messages import ANSWER, SEEN, is_had, is_keep_out, number_of, send
+from roverhome.messages import ANSWER, NO, SEEN, TICKS_APART, YES, is_had, is_keep_out, number_of, send
+from roverhome.refusals import BAD_MESSAGE
 from roverhome.ways import all_neighbours, lightest, second_cell, taken, weight
-
-BAD_MESSAGE = -71
-TICKS_APART = 5
 
 # What rv_step answers.
 LOOKED = 1
@@ -17,9 +15,6 @@ NOTHING = 0
 SAW = 0
 WENT = 1
 CHARGED = 2
-
-NO = 0
-YES = 1
 
 
 class Rover:

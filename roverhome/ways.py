@@ -1,7 +1,9 @@
 """Maps and ways: which cells lie beside one another, and how far it is between them."""
 
 CLOSED = 255
+HIGHEST_COST = 200
 LONGEST_SIDE = 16
+MOST_CELLS = 256
 
 # A cell weighs SHARE times its cost, and one more for itself. A way that takes
 # least has fewer than SHARE cells, so the lightest ways are those that take
@@ -11,6 +13,11 @@ SHARE = 1024
 
 def sides_fit(width, height):
     return 1 <= width <= LONGEST_SIDE and 1 <= height <= LONGEST_SIDE
+
+
+def is_cost(cost):
+    """Whether a cell that's known may have this cost."""
+    return 1 <= cost <= HIGHEST_COST or cost == CLOSED
 
 
 def neighbours(width, height, cell):
@@ -45,16 +52,17 @@ def lightest(weights, beside, start):
     if weights[start] == 0:
         return sums
     sums[start] = weights[start]
-    edge = [(sums[start], start)]
+    edge = {sums[start]: [start]}
     while edge:
-        nearest = min(edge)
-        edge.remove(nearest)
-        for cell in beside[nearest[1]]:
-            # A cell weighs the same wherever it's entered from, so the first
-            # sum found for it, from the nearest cell, is already its least.
-            if weights[cell] > 0 and sums[cell] == 0:
-                sums[cell] = nearest[0] + weights[cell]
-                edge.append((sums[cell], cell))
+        least = min(edge)
+        nearest = edge.pop(least)
+        for near in nearest:
+            for cell in beside[near]:
+                # A cell weighs the same wherever it's entered from, so the first
+                # sum found for it, from the nearest cells, is already its least.
+                if weights[cell] > 0 and sums[cell] == 0:
+                    sums[cell] = least + weights[cell]
+                    edge.setdefault(sums[cell], []).append(cell)
     return sums
 
 

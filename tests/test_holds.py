@@ -2,81 +2,7 @@
 
 import unittest
 
-from helper import NEVER, STEP, beside, dice_of, done, far, heard, keep_out, random_ground, rv_start, told
-
-
-class Followed:
-    """What a line's answers tell of the rover, kept apart from the rover itself."""
-
-    def __init__(self, test, width, height, home, room, ground, asked_each=1):
-        self.test = test
-        self.asked_each, self.steps = asked_each, 0
-        self.width, self.height, self.home, self.room, self.ground = width, height, home, room, ground
-        self.costs, self.place, self.left = {}, home, room
-        self.been, self.kept = {home}, set()
-
-    def free(self):
-        return {cell: cost for cell, cost in self.costs.items() if cost != 255 and cell not in self.kept}
-
-    def follow_step(self, answer):
-        for thing in done(answer):
-            if thing[0] == 0:
-                self.test.assertEqual(self.ground[thing[1]], thing[2])
-                self.test.assertNotIn(thing[1], self.costs)
-                self.costs[thing[1]] = thing[2]
-            elif thing[0] == 1:
-                self.go(thing[1])
-            elif thing[0] == 2:
-                self.test.assertEqual(self.place, self.home)
-                self.left = self.room
-        self.steps += 1
-        if self.steps % self.asked_each == 0:
-            self.ask_home()
-        if answer == [0]:
-            self.ask_everything()
-
-    def go(self, cell):
-        self.test.assertIn(cell, beside(self.width, self.height, self.place))
-        self.test.assertIn(cell, self.free())
-        self.test.assertNotIn(cell, self.kept)
-        self.place = cell
-        self.left -= self.costs[cell]
-        self.been.add(cell)
-
-    def follow_keep_out(self, cell, answer):
-        if answer[6] == 1:
-            self.kept.add(cell)
-        if self.costs:
-            self.ask_home()
-
-    def ask_home(self):
-        back = far(self.width, self.height, self.free(), self.home, True)
-        self.test.assertLessEqual(back.get(self.place, NEVER), self.left)
-
-    def ask_everything(self):
-        self.test.assertEqual((self.place, self.left), (self.home, self.room))
-        whole = {cell: cost for cell, cost in enumerate(self.ground) if cost != 255 and cell not in self.kept}
-        there = far(self.width, self.height, whole, self.home, False)
-        back = far(self.width, self.height, whole, self.home, True)
-        for cell in there:
-            if there[cell] + back[cell] <= self.room:
-                self.test.assertIn(cell, self.been)
-                for near in beside(self.width, self.height, cell):
-                    self.test.assertIn(near, self.costs)
-
-
-SHAPES = ((1, 1), (2, 1), (1, 2), (7, 1), (1, 9), (16, 1), (2, 2), (3, 3), (4, 3), (2, 6), (5, 5), (6, 4))
-COSTS = ((1,), (1, 2), (1, 2, 3, 9), (200,), (1, 200), tuple(range(1, 201)))
-
-
-def some_ground(seed):
-    dice = dice_of(seed)
-    width, height = dice.choice(SHAPES)
-    costs = dice.choice(COSTS)
-    home = dice.randrange(width * height)
-    ground = random_ground(dice, width * height, home, dice.choice((0, 0.1, 0.3)), costs)
-    room = min(65535, dice.choice((1, 2, 5, 8, 12, 20, 40)) * dice.choice(costs) + dice.choice((0, 1, 3)))
-    return dice, width, height, home, room, ground
+from helper import STEP, Followed, Live, dice_of, heard, keep_out, random_ground, rv_start, some_ground, told
 
 
 class Holds(unittest.TestCase):
@@ -152,3 +78,22 @@ class LargeGrounds(unittest.TestCase):
             home = dice.randrange(256)
             ground = random_ground(dice, 256, home, 0.25, (1, 2, 3, 10, 200))
             self.follow(home, dice.choice((50, 500, 5000)), ground)
+
+
+class MoreStepsThanAListHolds(unittest.TestCase):
+    def test_a_cell_a_journey(self):
+        # A winding row, and beside it cells so dear that what's left never does for two of them.
+        side = 12
+        rows = [[1] * side if y % 2 == 0 else [200] * side for y in range(side)]
+        for y in range(1, side, 2):
+            rows[y][side - 1 if y % 4 == 1 else 0] = 1
+        ground = [cost for row in rows for cost in row]
+        room = 2 * ground.count(1) + 200
+        live = Live(rv_start(side, side, 0, room, ground))
+        line = Followed(self, side, side, 0, room, ground, asked_each=61)
+        answer = None
+        while answer != [0] and line.steps < 140000:
+            answer = live.ask(STEP)
+            line.follow_step(answer)
+        self.assertEqual(answer, [0])
+        self.assertGreater(line.steps, 2000)

@@ -86,3 +86,12 @@ class Language(unittest.TestCase):
                     self.assertIn(node.id, bound | OWN_NAMES, (name, node.lineno))
                 if isinstance(node, ast.Call) and isinstance(node.func, ast.Attribute):
                     self.assertIn(node.func.attr, own | METHODS, (name, node.lineno))
+
+    def test_no_name_is_a_method_and_a_value(self):
+        nodes = [node for _, tree in self.trees() for node in ast.walk(tree)]
+        methods = {part.name for node in nodes if isinstance(node, ast.ClassDef) for part in node.body
+                   if isinstance(part, ast.FunctionDef)}
+        values = {node.attr for node in nodes if isinstance(node, ast.Attribute) and isinstance(node.ctx, ast.Store)}
+        self.assertFalse(methods & values)
+        own = {name for kind in (str, int, list, dict, set, bytes, tuple) for name in dir(kind)} - {"__init__"}
+        self.assertFalse((methods | values) & own)

@@ -2,9 +2,7 @@
 
 import unittest
 
-from helper import STATE, STEP, TICK, bs_start, had, heard, keep_out, rv_start, seen, told
-
-MOST = 4294967295
+from helper import MOST, STATE, STEP, TICK, bs_start, had, heard, keep_out, rv_start, seen, told
 
 
 class RoverStart(unittest.TestCase):
